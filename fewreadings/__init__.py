@@ -1,0 +1,1 @@
+"""Fewreadings: means that are told by few readings, all of them exact."""
