@@ -5,6 +5,8 @@ The item of a polynomial at an index is its coefficient of that power.
 
 from math import gcd
 
+from fewreadings.errors import InvalidFraction, InvalidNumber
+
 NOUGHT = (0, 1)
 ONE = (1, 1)
 
@@ -13,6 +15,12 @@ def whole_within(number, low, high):
     """Tell whether a number is an integer from low to high."""
     # Python takes a boolean for an integer, the document does not.
     return isinstance(number, int) and not isinstance(number, bool) and low <= number <= high
+
+
+def check_within(number, low, high):
+    """Raise InvalidNumber for what is not an integer from low to high."""
+    if not whole_within(number, low, high):
+        raise InvalidNumber(f"not an integer from {low} to {high}")
 
 
 def power_of(base, power):
@@ -29,6 +37,14 @@ def lowest(top, bottom):
     if bottom < 0:
         shared = -shared
     return (top // shared, bottom // shared)
+
+
+def checked_fraction(fraction):
+    """Return a fraction in lowest terms, or raise InvalidFraction."""
+    top, bottom = fraction
+    if bottom == 0:
+        raise InvalidFraction("a fraction with the bottom 0")
+    return lowest(top, bottom)
 
 
 def plus(one, other):
@@ -85,3 +101,27 @@ def worth(polynomial, place):
     for coefficient in reversed(polynomial):
         result = plus(times(result, place), coefficient)
     return result
+
+
+def only_at(places, index):
+    """Return the polynomial that is 1 at the place of an index, and 0 at all others."""
+    others = with_roots(places[:index] + places[index + 1:])
+    scale = worth(others, places[index])
+    return [over(coefficient, scale) for coefficient in others]
+
+
+def multiplied(one, other):
+    """Return the product of two polynomials, each of one coefficient at least."""
+    result = [NOUGHT] * (len(one) + len(other) - 1)
+    for low, left in enumerate(one):
+        for high, right in enumerate(other):
+            result[low + high] = plus(result[low + high], times(left, right))
+    return result
+
+
+def trimmed(polynomial):
+    """Return a polynomial without the zeros at its end."""
+    length = len(polynomial)
+    while length > 0 and polynomial[length - 1] == NOUGHT:
+        length -= 1
+    return polynomial[:length]

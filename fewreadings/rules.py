@@ -1,25 +1,30 @@
 """Rules: places with a weight each, what they tell, and which weights serve best."""
 
 from fewreadings.errors import InvalidPlaces, InvalidWeights
-from fewreadings.exact import NOUGHT, added_up, is_less, lowest, over, times, with_roots, worth
+from fewreadings.exact import NOUGHT, added_up, is_less, lowest, only_at, times, with_roots, worth
 from fewreadings.weightings import checked_polynomial, power_sum, weighed
 
 MOST_PLACES = 6
 
 
-def checked_places(places):
-    """Return the places in lowest terms, or raise InvalidPlaces."""
-    if len(places) == 0:
-        raise InvalidPlaces(0)
+def ascending_places(places, most):
+    """Return up to so many places, perhaps none, in lowest terms, or raise InvalidPlaces."""
     checked = []
     for index, (top, bottom) in enumerate(places):
-        if index == MOST_PLACES or bottom == 0:
+        if index == most or bottom == 0:
             raise InvalidPlaces(index)
         place = lowest(top, bottom)
         if index > 0 and not is_less(checked[-1], place):
             raise InvalidPlaces(index)
         checked.append(place)
     return checked
+
+
+def checked_places(places):
+    """Return the places of a rule in lowest terms, or raise InvalidPlaces."""
+    if len(places) == 0:
+        raise InvalidPlaces(0)
+    return ascending_places(places, MOST_PLACES)
 
 
 def checked_weights(weights, count):
@@ -53,16 +58,10 @@ def served(weighting, places, weights):
     return None
 
 
-def weight_at(weighting, found, index):
-    """Return the sum of the polynomial that is 1 at the place of an index, and 0 at all others."""
-    others = with_roots(found[:index] + found[index + 1:])
-    return over(weighed(weighting, others), worth(others, found[index]))
-
-
 def weights_for(weighting, places):
     """Return the weights by which places serve at least the degree one less than their number."""
     found = checked_places(places)
-    return tuple([weight_at(weighting, found, index) for index in range(len(found))])
+    return tuple([weighed(weighting, only_at(found, index)) for index in range(len(found))])
 
 
 def bar(weighting, places):

@@ -1,7 +1,7 @@
 """Weightings: masses and stretches on a line, their sums of powers and of polynomials, and their moves."""
 
-from fewreadings.errors import InvalidNumber, InvalidPolynomial, InvalidWeighting
-from fewreadings.exact import added_up, lowest, over, power_of, times, whole_within
+from fewreadings.errors import InvalidPolynomial, InvalidWeighting
+from fewreadings.exact import added_up, check_within, lowest, over, power_of, times, whole_within
 
 FARTHEST = 20
 HEAVIEST = 20
@@ -76,8 +76,7 @@ def checked_polynomial(polynomial):
 
 def power_sum(weighting, power):
     """Return the sum of a power, 0 to 60, by a weighting."""
-    if not whole_within(power, 0, MOST_POWER):
-        raise InvalidNumber(f"a power is from 0 to {MOST_POWER}")
+    check_within(power, 0, MOST_POWER)
     # All areas have the bottom power + 1, so that one fraction holds everything.
     up = power + 1
     masses = sum([mass * power_of(place, power) for place, mass in weighting.masses])
@@ -87,8 +86,7 @@ def power_sum(weighting, power):
 
 def power_sums(weighting, count):
     """Return the list of the sums of the first so many powers, 0 to 61."""
-    if not whole_within(count, 0, MOST_POWER + 1):
-        raise InvalidNumber(f"a count of powers is from 0 to {MOST_POWER + 1}")
+    check_within(count, 0, MOST_POWER + 1)
     return [power_sum(weighting, power) for power in range(count)]
 
 

@@ -3,6 +3,7 @@
 Only the examples are made by a random source, always by the same seed.
 """
 
+import itertools
 import random
 from fractions import Fraction
 
@@ -116,3 +117,106 @@ def some_polynomial(source):
 
 def source_of(seed):
     return random.Random(seed)
+
+
+def multiplied(one, other):
+    """Return the product of two polynomials of numbers."""
+    if not one or not other:
+        return []
+    result = [Fraction(0)] * (len(one) + len(other) - 1)
+    for low, left in enumerate(one):
+        for high, right in enumerate(other):
+            result[low + high] += left * right
+    return result
+
+
+def shortened(polynomial):
+    result = list(polynomial)
+    while result and result[-1] == 0:
+        result.pop()
+    return result
+
+
+def worth(polynomial, spot):
+    return sum((coefficient * Fraction(spot) ** power for power, coefficient in enumerate(polynomial)), Fraction(0))
+
+
+def product_of_roots(spots):
+    result = [Fraction(1)]
+    for spot in spots:
+        result = multiplied(result, [-Fraction(spot), Fraction(1)])
+    return result
+
+
+def only_solution(rows):
+    """Return the solution of as many linear equations as unknowns, None if there is not just one."""
+    try:
+        return solved(rows)
+    except StopIteration:
+        return None
+
+
+def grown_polynomial(masses, stretches, spots, count):
+    """Return the polynomial of so many places beside spots, by its equations, None if there is not just one."""
+    sums = [sum_of_polynomial(masses, stretches, multiplied([0] * power + [1], product_of_roots(spots)))
+            for power in range(2 * count)]
+    found = only_solution([sums[row:row + count] + [-sums[row + count]] for row in range(count)])
+    return None if found is None else tuple(told(number) for number in found) + ((1, 1),)
+
+
+def rest_of(one, other):
+    """Return the rest of the division of two polynomials of numbers."""
+    rest = shortened(one)
+    while len(rest) >= len(other):
+        factor = rest[-1] / other[-1]
+        ahead = len(rest) - len(other)
+        rest = shortened([number - factor * other[at - ahead] if at >= ahead else number
+                          for at, number in enumerate(rest)][:-1])
+    return rest
+
+
+def signs_changed(chain, spot):
+    signs = [worth(polynomial, spot) > 0 for polynomial in chain if worth(polynomial, spot) != 0]
+    return sum(one != other for one, other in zip(signs, signs[1:]))
+
+
+def roots_in(polynomial, low, high):
+    """Return how many roots of a polynomial of single roots lie above low, not above high, by its division chain."""
+    chain = [shortened(polynomial)]
+    chain.append(shortened([power * number for power, number in enumerate(chain[0])][1:]))
+    while chain[-1]:
+        chain.append([-number for number in rest_of(chain[-2], chain[-1])])
+    chain.pop()
+    if low >= high or len(chain) < 2:
+        return 0
+    return signs_changed(chain, low) - signs_changed(chain, high)
+
+
+def determinant(rows):
+    """Return the determinant of rows of numbers, by all orders of the columns."""
+    total = Fraction(0)
+    for order in itertools.permutations(range(len(rows))):
+        part = Fraction(1)
+        for row, column in enumerate(order):
+            part *= rows[row][column]
+        turned = sum(order[one] > order[other] for other in range(len(order)) for one in range(other))
+        total += -part if turned % 2 else part
+    return total
+
+
+def through(spots, worths):
+    """Return the shortest polynomial that has worths at spots, by its equations."""
+    rows = [[spot ** power for power in range(len(spots))] + [one] for spot, one in zip(spots, worths)]
+    return shortened(solved(rows))
+
+
+def some_readings(source, count):
+    return tuple(some_terms(source, Fraction(source.randint(-12, 12), source.randint(1, 5))) for _ in range(count))
+
+
+def some_strong_weighting(source, count):
+    """Return masses and stretches for which there is the polynomial of a count."""
+    while True:
+        masses, stretches = some_weighting(source)
+        if stretches or len(masses) >= count:
+            return masses, stretches

@@ -97,6 +97,20 @@ class LanguageTest(unittest.TestCase):
                 if isinstance(node, ast.Name) and node.id in known:
                     self.assertIn(node.id, BUILTINS, path)
 
+    def test_calls_beside_a_class_that_compares(self):
+        for path, _, tree in parsed():
+            for node in ast.walk(tree):
+                self.assertNotIsInstance(node, (ast.GeneratorExp, ast.Yield, ast.YieldFrom, ast.Lambda), path)
+                if isinstance(node, ast.Attribute):
+                    self.assertNotEqual(node.attr, "sort", path)
+
+    def test_end_of_a_block(self):
+        for path, _, tree in parsed():
+            for node in ast.walk(tree):
+                if isinstance(node, ast.FunctionDef) and node.name == "__exit__":
+                    for row in node.body:
+                        self.assertIsInstance(row, (ast.Assign, ast.If, ast.Return), path)
+
     def test_values(self):
         for path, _, tree in parsed():
             for node in ast.walk(tree):
