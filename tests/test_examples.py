@@ -3,13 +3,18 @@
 import unittest
 
 from fewreadings.balances import Balance
-from fewreadings.errors import InvalidPlaces, InvalidSums, InvalidWeighting, NothingLeft, TooFew
+from fewreadings.codec import decode_weighting, encode_weighting
+from fewreadings.errors import (DecodeError, ExecutionFailed, InvalidPlaces, InvalidSums, InvalidText, InvalidWeighting,
+                                NothingLeft, TooFew, UnknownPlace)
 from fewreadings.further import determinants, further_polynomial, is_grown, next_least
 from fewreadings.misses import (cut_gap, cut_sum, false_ones, first_gap, gap, heavy_places, lacking_reading,
                                 needless_places, polynomial_by, repaired, sum_by)
+from fewreadings.notation import format_weighting, fraction_text, parse_weighting, polynomial_text
+from fewreadings.readers import Reader
 from fewreadings.roots import (all_whole, fewest_places, root_floors, root_polynomial, roots_between, steps,
                                whole_rule)
 from fewreadings.rules import bar, best_degree, reading, served, weights_for
+from fewreadings.scripts import run_script
 from fewreadings.weightings import Weighting, joined, mean, mirrored, moved, power_sums, total
 
 
@@ -95,6 +100,50 @@ class ExamplesTest(unittest.TestCase):
     def test_balances_error(self):
         with self.assertRaises(NothingLeft):
             Balance(Weighting(((0, 2),), ())).lift(0)
+
+    def test_readers(self):
+        line = Weighting((), ((-1, 1, 1),))
+        reader = Reader(line, ((-1, 1), (0, 1), (1, 1)), 1)
+        found = [reader.seen(1, (2, 4)), reader.known, reader.sum_known(), reader.places_left(),
+                 reader.polynomial_known()]
+        found = found + [reader.seen(0, (0, 1)), reader.known, reader.polynomial_known()]
+        self.assertEqual(found, [1, (None, (1, 2), None), (1, 1), (0, 2), None, 3, ((0, 1), (1, 2), (1, 1)),
+                                 ((1, 2), (1, 2))])
+
+    def test_readers_error(self):
+        line = Weighting((), ((-1, 1, 1),))
+        with self.assertRaises(UnknownPlace):
+            Reader(line, ((0, 1),), 0).seen(1, (1, 1))
+
+    def test_notation(self):
+        one = Weighting(((0, 2),), ((1, 4, 3),))
+        found = [fraction_text((4, -6)), polynomial_text(((-1, 3), (0, 1), (1, 1))), polynomial_text(((1, 1), (-2, 1)))]
+        found = found + [format_weighting(one), parse_weighting(format_weighting(one)) == one]
+        self.assertEqual(found, ['-2/3', 'x^2 - 1/3', '-2 x + 1', 'mass 0 2\nstretch 1 4 3', True])
+
+    def test_notation_error(self):
+        with self.assertRaises(InvalidText) as caught:
+            parse_weighting("mass 0")
+        self.assertEqual((caught.exception.row, caught.exception.word), (0, 2))
+
+    def test_codec(self):
+        values = encode_weighting(Weighting(((0, 2),), ()))
+        self.assertEqual([values, decode_weighting(values).masses], [[113, 1, 0, 20, 2, 12], ((0, 2),)])
+
+    def test_codec_error(self):
+        with self.assertRaises(DecodeError) as caught:
+            decode_weighting([113, 7])
+        self.assertEqual(caught.exception.offset, 1)
+
+    def test_scripts(self):
+        lines = ["add 3 1", "show", "when 3", "mean", "lift 3", "end", "repeat 2", "add 0 1", "end", "show"]
+        balance, output = run_script(Weighting(((0, 2),), ()), "\n".join(lines))
+        self.assertEqual([output, balance.weighting_now.masses, len(balance.history)], [['3', '1', '4'], ((0, 4),), 4])
+
+    def test_scripts_error(self):
+        with self.assertRaises(ExecutionFailed) as caught:
+            run_script(Weighting(((0, 2),), ()), "lift 5")
+        self.assertEqual(caught.exception.row, 0)
 
 
 if __name__ == "__main__":

@@ -50,6 +50,19 @@ FUNCTIONS = {
         "cut_sum": ["low", "high", "parts", "places", "weights", "polynomial"],
         "cut_gap": ["low", "high", "parts", "places", "weights", "polynomial"],
     },
+    "fewreadings.notation": {
+        "fraction_text": ["fraction"],
+        "polynomial_text": ["polynomial"],
+        "format_weighting": ["weighting"],
+        "parse_weighting": ["text"],
+    },
+    "fewreadings.codec": {
+        "encode_weighting": ["weighting"],
+        "decode_weighting": ["values"],
+    },
+    "fewreadings.scripts": {
+        "run_script": ["weighting", "text"],
+    },
 }
 # The arguments of each class, and its methods and properties with their arguments.
 CLASSES = {
@@ -76,6 +89,16 @@ CLASSES = {
             "replay": ["cls", "weighting", "operations"],
         }),
         "Trial": (["balance"], {"hold": ["self"], "__enter__": ["self"], "__exit__": ["self", "kind", "value", "trace"]}),
+    },
+    "fewreadings.readers": {
+        "Reader": (["weighting", "places", "degree"], {
+            "known": ["self"],
+            "told_so_far": ["self"],
+            "seen": ["self", "index", "reading"],
+            "polynomial_known": ["self"],
+            "sum_known": ["self"],
+            "places_left": ["self"],
+        }),
     },
 }
 

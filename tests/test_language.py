@@ -24,6 +24,13 @@ LIBRARY = {
                   "zip_longest"},
     "collections": {"defaultdict"},
 }
+METHODS = set(
+    "append clear copy count endswith extend find get index insert isalnum isalpha isdigit islower isspace isupper "
+    "items join keys ljust lower lstrip partition pop remove replace reverse rfind rjust rpartition rsplit rstrip "
+    "setdefault split splitlines startswith strip update upper values zfill bit_length title capitalize swapcase "
+    "casefold center expandtabs removeprefix removesuffix rindex isascii isdecimal isnumeric istitle isidentifier "
+    "isprintable".split())
+BARRED = set("register mro elements open input law version_info with_traceback add_note".split())
 
 
 def parsed():
@@ -103,6 +110,31 @@ class LanguageTest(unittest.TestCase):
                 self.assertNotIsInstance(node, (ast.GeneratorExp, ast.Yield, ast.YieldFrom, ast.Lambda), path)
                 if isinstance(node, ast.Attribute):
                     self.assertNotEqual(node.attr, "sort", path)
+
+    def test_methods(self):
+        own = {node.name for _, _, tree in parsed() for part in tree.body if isinstance(part, ast.ClassDef)
+               for node in part.body if isinstance(node, ast.FunctionDef)}
+        for path, _, tree in parsed():
+            for node in ast.walk(tree):
+                if isinstance(node, ast.Call) and isinstance(node.func, ast.Attribute):
+                    self.assertIn(node.func.attr, METHODS | own, path)
+
+    def test_names_and_strings(self):
+        for path, _, tree in parsed():
+            for node in ast.walk(tree):
+                if isinstance(node, ast.Constant) and isinstance(node.value, str):
+                    self.assertNotIn("%", node.value, path)
+                if isinstance(node, (ast.Name, ast.Attribute)):
+                    self.assertNotIn(node.id if isinstance(node, ast.Name) else node.attr, BARRED, path)
+
+    def test_imports_go_one_way(self):
+        wanted = {path.stem: {node.module.split(".")[1] for node in tree.body if isinstance(node, ast.ImportFrom)
+                              and node.module.startswith("fewreadings.")} for path, _, tree in parsed()}
+        while wanted:
+            free = [name for name, others in wanted.items() if not others & wanted.keys()]
+            self.assertNotEqual(free, [])
+            for name in free:
+                del wanted[name]
 
     def test_end_of_a_block(self):
         for path, _, tree in parsed():

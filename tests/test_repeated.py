@@ -1,4 +1,4 @@
-"""Promise 8 of the second stage: repeated calls, what callers change between them, and known answers at the edges."""
+"""Repeated calls of all functions, what callers change between them, and known answers at the edges."""
 
 import copy
 import unittest

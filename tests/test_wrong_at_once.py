@@ -1,9 +1,9 @@
-"""Promises 1 and 13 of the second stage: of several wrong arguments, the error of the first one that is checked."""
+"""Of several wrong arguments, the error of the first one that is checked, in all functions of the interface."""
 
 import itertools
 import unittest
 
-from fewreadings import errors, further, misses, roots, rules, weightings
+from fewreadings import codec, errors, further, misses, notation, roots, rules, weightings
 from fewreadings.weightings import Weighting
 from tests.test_interface import FUNCTIONS
 
@@ -77,6 +77,14 @@ CASES = (
     (misses.cut_gap, (0, 3, 2, PLACES, ONES, (1, 2)),
      ((0, numbers(-21, 4)), (1, numbers(21, -1)), (2, numbers(0, 13)), (3, PLACES_FAULTS), (4, WEIGHTS_FAULTS),
       (5, POLYNOMIAL_FAULTS))),
+    (notation.fraction_text, ((2, 4),), ((0, FRACTION_FAULTS),)),
+    (notation.polynomial_text, (((2, 4), (0, 1), (-1, 1)),), ((0, ((((1, 1), (1, 0)), "InvalidFraction", None),)),)),
+    (notation.format_weighting, (LINE,), ()),
+    (notation.parse_weighting, ("mass 0 1\nstretch 0 1 2",),
+     ((0, (("mass 0 99\nmass 0 01", "InvalidText", None), ("mass 0 1\nmass 0 99", "InvalidWeighting", 1))),)),
+    (codec.encode_weighting, (LINE,), ()),
+    (codec.decode_weighting, ([113, 1, 0, 20, 2, 12],),
+     ((0, (([113, 0, 0, 0], "DecodeError", None), (codec.encode_weighting(LINE) + [0], "DecodeError", None))),)),
 )
 
 
@@ -111,7 +119,7 @@ class WrongAtOnceTest(unittest.TestCase):
 
     def test_every_function_is_here(self):
         listed = [name for functions in FUNCTIONS.values() for name in functions]
-        here = [call.__name__ for call, _, _ in CASES] + ["moved", "mirrored", "joined"]
+        here = [call.__name__ for call, _, _ in CASES] + ["moved", "mirrored", "joined", "run_script"]
         self.assertEqual(sorted(here), sorted(listed))
 
 
